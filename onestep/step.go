@@ -22,7 +22,6 @@ type words interface {
 }
 
 // step is the configuration behind the step of the one that p has; what its memory would be, just the words know.
-// Layer 10 does the step, in a memory that has no words but those that it reads: it can't tell, and so the machine's rules stand in one place alone.
 func step(p api.StepProof, over words) api.Machine {
 	m := api.Machine{PC: p.PC, Regs: p.Regs, Status: p.Status}
 	if m.Status != api.Running {
@@ -31,13 +30,15 @@ func step(p api.StepProof, over words) api.Machine {
 	m.Mem = make([]uint64, 1<<p.Depth)
 	c := fetch(m, over)
 	read, written := touched(c, m)
-	bring(m.Mem, read, over)
-	n, _ := vm.Step(m, asked(c, m.Mem, read, over))
-	for i := range written.count {
-		at := written.at + i
-		over.set(at, n.Mem[at])
+	if read.count == 0 && written.count == 0 {
+		// Layer 10 does what asks for no word but its own, and what traps: that all other words are noughts it can't tell then.
+		n, _ := vm.Step(m, nil)
+		return n
 	}
-	return n
+	// What is read is not laid into that memory: it may be the word at PC once more, and be given as another one than the instruction was.
+	move(c, &m.Regs, bring(read, over), written, over)
+	m.PC++
+	return m
 }
 
 // fetch brings the word at PC, and is its instruction; a zero one, if there is none.
@@ -46,25 +47,71 @@ func fetch(m api.Machine, over words) api.Code {
 	if !own.isIn(m.Mem) {
 		return api.Code{}
 	}
-	bring(m.Mem, own, over)
+	m.Mem[m.PC] = over.get(m.PC)
 	c, _ := vm.Decode(m.Mem[m.PC])
 	return c
 }
 
-// bring brings words to where they stand in a memory.
-func bring(memory []uint64, s span, over words) {
-	for i := range s.count {
-		memory[s.at+i] = over.get(s.at + i)
+// bring is the words of a span, as they are given.
+func bring(s span, over words) []uint64 {
+	given := make([]uint64, s.count)
+	for i := range given {
+		given[i] = over.get(s.at + uint64(i))
+	}
+	return given
+}
+
+// move does an instruction that touches words beside its own, all of which are there: given is what it reads.
+func move(c api.Code, regs *[16]uint64, given []uint64, written span, over words) {
+	switch c.Op {
+	case api.LD:
+		regs[c.A] = given[0]
+	case api.ST:
+		over.set(written.at, regs[c.A])
+	case api.HASH:
+		b := append(markOf(c.Imm), firstBytes(given, regs[c.C])...)
+		for i, w := range sha.Words(sha.Sum(b)) {
+			over.set(written.at+uint64(i), w)
+		}
+	case api.PRE:
+		regs[c.A] = eightFrom(over.preimage(sumIn(given)), regs[c.C])
+	case api.PLEN:
+		regs[c.A] = uint64(len(over.preimage(sumIn(given))))
 	}
 }
 
-// asked is what must be known for an instruction: the preimage of the sum that it reads, if it asks for one, and does not trap ahead of that.
-func asked(c api.Code, memory []uint64, read span, over words) []api.Hashed {
-	if c.Op != api.PRE && c.Op != api.PLEN || read.count == 0 {
+// sumIn is the sum whose words were given.
+func sumIn(given []uint64) api.Hash { return sha.From([sumWords]uint64(given)) }
+
+// mayMark says whether a HASH may have that Imm.
+func mayMark(imm uint32) bool { return imm == 0 || imm >= firstMark && imm <= lastMark }
+
+// markOf is what a HASH of an Imm that it may have sums ahead.
+func markOf(imm uint32) []byte {
+	if imm == 0 {
 		return nil
 	}
-	sum := sha.From([sumWords]uint64(memory[read.at : read.at+sumWords]))
-	return []api.Hashed{{Bytes: over.preimage(sum), Sum: sum}}
+	return []byte{byte(imm - firstMark)}
+}
+
+// firstBytes are the first bytes of some words, the highest of a word first.
+func firstBytes(given []uint64, size uint64) []byte {
+	b := make([]byte, size)
+	for i := range b {
+		b[i] = byte(given[i/wordBytes] >> (56 - 8*(i%wordBytes)))
+	}
+	return b
+}
+
+// eightFrom is the number of the eight bytes from a place on; noughts stand behind the end.
+func eightFrom(b []byte, at uint64) uint64 {
+	var eight [wordBytes]byte
+	copy(eight[:], b[min(at, uint64(len(b))):])
+	var w uint64
+	for _, x := range eight {
+		w = w<<8 | uint64(x)
+	}
+	return w
 }
 
 // span is some words that stand one behind the other, from an address on.
@@ -103,6 +150,3 @@ func named(c api.Code, regs [16]uint64) (read, written span) {
 	}
 	return read, written
 }
-
-// mayMark says whether a HASH may have that Imm.
-func mayMark(imm uint32) bool { return imm == 0 || imm >= firstMark && imm <= lastMark }
